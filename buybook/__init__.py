@@ -1,0 +1,1 @@
+"""Buybook: exact answers from a book of purchases."""
