@@ -22,6 +22,30 @@ KeyError IndexError LookupError ZeroDivisionError ArithmeticError OverflowError 
 AttributeError StopIteration NotImplemented bytes frozenset
 """.split())
 
+METHODS = set("""
+append clear copy count endswith extend find get index insert isalnum isalpha isdigit islower isspace isupper items
+join keys ljust lower lstrip partition pop remove replace reverse rfind rjust rpartition rsplit rstrip setdefault split
+splitlines startswith strip update upper values zfill bit_length isascii removeprefix removesuffix sort add discard
+""".split())
+BARRED = set("""
+register mro elements open input law version_info with_traceback add_note attrgetter breakpoint builtins compile
+copyright credits delattr dir eval exec exit gc globals help id importlib license locals methodcaller os quit super
+type vars sys typing enum Enum Flag Generic Protocol ABC namedtuple hash map round print
+""".split())
+BARRED_ATTRIBUTES = set("items keys values pop update append clear extend insert remove reverse sort format".split())
+TAKES_GENERATORS = {"list", "tuple", "dict", "sorted", "sum", "min", "max", "any", "all"}
+
+
+def own_scopes(function):
+    """Return the names that a function gives to its parameters, variables and nested functions."""
+    found = {arg.arg for arg in ast.walk(function.args) if isinstance(arg, ast.arg)}
+    for node in ast.walk(function):
+        if isinstance(node, ast.Name) and isinstance(node.ctx, ast.Store):
+            found.add(node.id)
+        if isinstance(node, ast.FunctionDef) and node is not function:
+            found.add(node.name)
+    return found
+
 
 class Language(unittest.TestCase):
     def trees(self):
@@ -86,6 +110,53 @@ class Language(unittest.TestCase):
                     self.assertNotIsInstance(node.value, (float, complex), path)
                     if isinstance(node.value, str):
                         self.assertNotIn("%", node.value, path)
+
+    def test_names(self):
+        for path, tree in self.trees():
+            taken = {node.name for node in tree.body if isinstance(node, ast.ClassDef)}
+            for node in tree.body:
+                if isinstance(node, ast.ImportFrom):
+                    taken |= {alias.name for alias in node.names}
+            for node in ast.walk(tree):
+                if isinstance(node, (ast.FunctionDef, ast.ClassDef)):
+                    self.assertNotIn(node.name, BARRED, path)
+                if isinstance(node, ast.FunctionDef):
+                    names = own_scopes(node)
+                    self.assertEqual(names & (taken | BARRED | BUILTINS), set(), (path, node.name))
+                if isinstance(node, ast.Attribute) and isinstance(node.ctx, ast.Store):
+                    self.assertNotIn(node.attr, BARRED_ATTRIBUTES, path)
+
+    def test_methods_of_builtin_values(self):
+        own = {node.name for _, tree in self.trees() for node in ast.walk(tree) if isinstance(node, ast.FunctionDef)}
+        for path, tree in self.trees():
+            for node in ast.walk(tree):
+                if isinstance(node, ast.Call) and isinstance(node.func, ast.Attribute):
+                    self.assertIn(node.func.attr, own | METHODS, path)
+
+    def test_statements(self):
+        barred = (ast.Global, ast.AsyncFunctionDef, ast.AsyncFor, ast.Await)
+        for path, tree in self.trees():
+            for node in ast.walk(tree):
+                if isinstance(node, (ast.FunctionDef, ast.ClassDef)):
+                    self.assertEqual(node.decorator_list, [], path)
+                self.assertNotIsInstance(node, barred, path)
+
+    def test_generator_expressions_stand_in_calls(self):
+        for path, tree in self.trees():
+            taken = {id(node.args[0]) for node in ast.walk(tree) if isinstance(node, ast.Call) and node.args
+                     and isinstance(node.func, ast.Name) and node.func.id in TAKES_GENERATORS}
+            for node in ast.walk(tree):
+                if isinstance(node, ast.GeneratorExp):
+                    self.assertIn(id(node), taken, (path, node.lineno))
+
+    def test_no_two_files_import_from_each_other(self):
+        needs = {path.stem: {node.module.removeprefix("buybook.") for node in tree.body
+                             if isinstance(node, ast.ImportFrom)} for path, tree in self.trees()}
+        while needs:
+            free = [name for name in needs if not needs[name] & set(needs)]
+            self.assertTrue(free, sorted(needs))
+            for name in free:
+                del needs[name]
 
 
 if __name__ == "__main__":
