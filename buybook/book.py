@@ -57,7 +57,7 @@ class Book:
         """Remove a statement."""
         # Python would count an index below 0 from the end.
         if not 0 <= index < len(self._statements):
-            raise NotAllowed(f"there is no statement {index}")
+            raise NotAllowed("there is no statement of this index")
         del self._statements[index]
 
     def purchases(self):

@@ -264,7 +264,7 @@ class Unsay(BookCase):
             self.assert_refused(NotAllowed, book, "unsay", index)
         book.say("well a as a")
         book.say("well a as c")
-        for index in [2, 3, 100, -1, -2, -3]:
+        for index in [2, 3, 100, -1, -2, -3, 10 ** 9999, -10 ** 9999]:
             self.assert_refused(NotAllowed, book, "unsay", index)
 
 
