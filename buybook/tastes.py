@@ -35,12 +35,12 @@ def judge_taste(data, taste):
         for j in range(count):
             if less(plane(data, taste, i, data.buys[j][1]), numbers[j]):
                 return False
-    return keeps_links(data, numbers)
+    return keeps_links(data.links, numbers)
 
 
-def keeps_links(data, numbers):
+def keeps_links(links, numbers):
     """Return whether the numbers of the purchases are as the links say."""
-    for i, j, strict in data.links:
+    for i, j, strict in links:
         if less(numbers[i], numbers[j]) or (strict and numbers[i] == numbers[j]):
             return False
     return True

@@ -2,6 +2,7 @@
 
 import copy
 import inspect
+import itertools
 from fractions import Fraction
 
 from buybook.data import Data
@@ -84,3 +85,70 @@ def leads_of(data):
     strict = {(i, j): any(steps[a, b] and joined[i, a] and joined[b, j] for a in many for b in many)
               for i in many for j in many}
     return [[strict[i, j] if joined[i, j] else None for j in many] for i in many]
+
+
+def axes(*prices, links=()):
+    """Return data in which purchase k is of one unit of good k; k leads to j if j's price there is at most k's."""
+    goods = len(prices[0])
+    return Data(goods, [(row(*told), row(*[k == g for g in range(goods)])) for k, told in enumerate(prices)], links)
+
+
+def reached_of(data, prices, money):
+    """Return what new prices and money reach, by the words of point 22."""
+    table = leads_of(data)
+    found = []
+    for j in range(len(data.buys)):
+        kinds = []
+        for i, (_, amounts) in enumerate(data.buys):
+            rest = Fraction(*money) - cost_of(prices, amounts)
+            if rest >= 0 and table[i][j] is not None:
+                kinds.append(rest > 0 or table[i][j])
+        found.append(any(kinds) if kinds else None)
+    return found
+
+
+def rooms_of(data, basket):
+    """Return by how much more than what was spent the basket costs at each purchase."""
+    return [cost_of(prices, basket) - cost_of(prices, amounts) for prices, amounts in data.buys]
+
+
+def keeps_of(data, rows, basket, closed=False):
+    """Return whether a basket keeps rows by the words of points 24 and 32; closed, as if none were strict."""
+    return all(kind is None or room > 0 or (room == 0 and (closed or not kind))
+               for kind, room in zip(rows, rooms_of(data, basket)))
+
+
+def solution_of(table):
+    """Return the one solution of as many equations as numbers, (entries, right); None if there is not one."""
+    table = [[*entries, right] for entries, right in table]
+    for k in range(len(table)):
+        pivot = next((i for i in range(k, len(table)) if table[i][k] != 0), None)
+        if pivot is None:
+            return None
+        table[k], table[pivot] = table[pivot], table[k]
+        table[k] = [x / table[k][k] for x in table[k]]
+        for i in range(len(table)):
+            if i != k:
+                table[i] = [x - table[i][k] * y for x, y in zip(table[i], table[k])]
+    return [told[-1] for told in table]
+
+
+def least_of(data, rows, weights, fixed):
+    """Return (value, met): the least of baskets that keep the rows and cost what is fixed, by all their corners.
+
+    With a strict row the least is met if one of the corners that come to it keeps that row as such: the
+    middle of all of them keeps every row that one of them keeps.
+    """
+    equal = [(numbers(prices), Fraction(*money)) for prices, money in fixed]
+    bounds = [([Fraction(k == g) for g in range(data.goods)], Fraction(0)) for k in range(data.goods)]
+    for kind, (prices, amounts) in zip(rows, data.buys):
+        if kind is not None:
+            bounds.append((numbers(prices), cost_of(prices, amounts)))
+    corners = []
+    for chosen in itertools.combinations(bounds, data.goods - len(equal)):
+        corner = solution_of([*equal, *chosen])
+        if corner is not None and min(corner) >= 0 and keeps_of(data, rows, row(*corner), closed=True):
+            corners.append(row(*corner))
+    value = min(cost_of(weights, corner) for corner in corners)
+    ends = [rooms_of(data, corner) for corner in corners if cost_of(weights, corner) == value]
+    return value, all(any(rooms[j] > 0 for rooms in ends) for j, kind in enumerate(rows) if kind)
