@@ -63,6 +63,23 @@ def made_data(rng, goods, many, links, most=3):
     return Data(goods, buys, said)
 
 
+LARGE = 10 ** 12
+
+
+def large_data(rng, goods, many):
+    """Return made-up data of integers of 12 digits and more, close to multiples of a large one."""
+    buys = []
+    for prices, amounts in made_data(rng, goods, many, 0).buys:
+        buys.append(([(p * LARGE + rng.randint(-9, 9), 1) for p, _ in prices],
+                     [(p * LARGE + rng.randint(0, 9) if p else 0, 1) for p, _ in amounts]))
+    return Data(goods, buys, [])
+
+
+def large_prices(rng, goods):
+    """Return prices of 13 digits."""
+    return row(*[rng.randint(1, 9) * LARGE + 7 for _ in range(goods)])
+
+
 def step_of(data, i, j):
     """Return the step from i to j by the words of point 12."""
     kinds = [strict for a, b, strict in data.links if (a, b) == (i, j)]

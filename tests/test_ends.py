@@ -9,8 +9,8 @@ from buybook.data import Data
 from buybook.ends import greatest, judge_paper, judge_strict_paper, least
 from buybook.rings import check
 from buybook.steps import judge_chain
-from samples import (axes, check_functions, cost_of, inside, keeps_of, least_of, made_data, numbers, pair, reached_of,
-                     row)
+from samples import (LARGE, axes, check_functions, cost_of, inside, keeps_of, large_data, large_prices, least_of,
+                     made_data, numbers, pair, reached_of, row)
 
 LITTLE = Fraction(1, 10 ** 12)
 # 7 were spent on the one purchase; at the prices (3, 2) its amounts cost 8.
@@ -189,19 +189,15 @@ class Ends(EndsCase):
             self.assert_both(Data(2, data.buys, links), row(1, 1), 4, row(1, 0), low, high)
 
     def test_large_integers(self):
-        large = 10 ** 12
         rng = random.Random(31)
-        kinds = {}
-        for turn in range(40):
-            data = made_data(rng, rng.randint(2, 4), rng.randint(1, 3), 0)
-            buys = [([(p * large + rng.randint(-9, 9), 1) for p, _ in prices],
-                     [(p * large + rng.randint(0, 9) if p else 0, 1) for p, _ in amounts]) for prices, amounts in data.buys]
-            data = Data(data.goods, buys, [])
-            prices = row(*[rng.randint(1, 9) * large + 7 for _ in range(data.goods)])
-            money = cost_of(prices, buys[0][1]) + rng.randint(0, 1)
+        kinds = set()
+        for _ in range(40):
+            data = large_data(rng, rng.randint(2, 4), rng.randint(1, 3))
+            prices = large_prices(rng, data.goods)
+            money = cost_of(prices, data.buys[0][1]) + rng.randint(0, 1)
+            weights = row(*[rng.randint(-LARGE, LARGE) for _ in prices])
             for function in [least, greatest]:
-                told = self.assert_end(function, data, prices, money, row(*[rng.randint(-large, large) for _ in prices]))
-                kinds[told[0]] = kinds.get(told[0], 0) + 1
+                kinds.add(self.assert_end(function, data, prices, money, weights)[0])
         self.assertEqual(sorted(kinds), ["met", "near", "ring"])
 
     def test_made_data(self):
@@ -276,8 +272,8 @@ class Papers(unittest.TestCase):
     def test_lists_of_the_wrong_length(self):
         for row_prices in [[], row(1), row(1, 0, 0), row(1, 0, 1)]:
             self.assert_judged(False, row(9, 9), -100, ((1, 1), row_prices))
-        for prices, weights in [(row(3), row(9, 9)), (row(3, 2, 1), row(9, 9)), (PRICES, row(9)), (PRICES, row(9, 9, 9)),
-                                ([], row(9, 9)), (PRICES, [])]:
+        for prices, weights in [(row(3), row(9, 9)), (row(3, 2, 1), row(9, 9)), (PRICES, row(9)), (PRICES, []),
+                                (PRICES, row(9, 9, 9)), ([], row(9, 9))]:
             for data in [Data(2, [], []), self.data]:
                 paper = ((0, 1), [(0, 1)] * len(data.buys))
                 self.assertIs(judge_paper(data, PRICES, (9, 1), row(9, 9), (-100, 1), paper), True)
