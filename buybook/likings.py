@@ -24,7 +24,7 @@ def judge_liking(data, first, second, goal, liking):
     points = _points(data, first, second)
     if len(numbers) != len(points) or len(weights) != len(data.buys) or len(slopes) != 2:
         return False
-    if any(len(row) != data.goods for row in [first, second, *slopes]):
+    if any(len(part) != data.goods for part in [first, second, *slopes]):
         return False
     scales = [*[[weight] for weight in weights], *slopes]
     for i, row in enumerate(scales):
